@@ -1,0 +1,1 @@
+"""Nearseats: families placed together so that no deal blocks."""
