@@ -40,7 +40,7 @@ class BookReader:
 
     def wants_orders(self):
         """Whether the order of a room must still come."""
-        return not self.closed and len(self.orders) < len(self.rooms)
+        return len(self.orders) < len(self.rooms)
 
     def why_order(self, room, members):
         """What is wrong with the members, told for a room, as the next order; None if nothing is."""

@@ -47,13 +47,11 @@ def without_family(book, family):
 
 def cut(book, family, many):
     """The book in which only the first many deals of a family are kept."""
-    _check_family(book, family)
     return with_deals(book, family, book.deals(family)[:many])
 
 
 def exchanged(book, room, place):
     """The book in which the member at a place of an order is exchanged with the next one."""
-    _check_room(book, room)
     order = book.order(room)
     if not is_number(place, 0, len(order) - 2):
         raise InvalidPlace(place)

@@ -92,6 +92,8 @@ class FormTest(TextFaults):
 
     def test_families_and_rooms_behind_orders(self):
         self.check_line(6, "form", "family e 1 :", "room Ash 1", "book")
+        for line in ("room Elm 1", "family c 1 :"):
+            self.check(4, "form", text_of(["book", "room Oak 1", "room Ash 1", "order Oak :", line]))
 
     def test_end(self):
         self.check_line(7, "form", "", "End", "end ", " end", "order Oak : c.1", "order Ash :", "family e 1 :",

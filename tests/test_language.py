@@ -19,6 +19,7 @@ ALLOWED_METHODS = set(
     "items join keys ljust lower lstrip partition pop remove replace reverse rfind rjust rpartition rsplit rstrip "
     "setdefault split splitlines startswith strip update upper values zfill bit_length add discard".split())
 ALLOWED_DUNDERS = set("__init__ __eq__ __repr__ __len__ __iter__ __add__ __contains__ __getitem__ __bool__".split())
+LIBRARY = {"heapq": {"heappush", "heappop"}, "math": {"gcd", "lcm"}, "itertools": {"product", "combinations"}}
 BARRED_WORDS = ("type", "typing", "enum", "Enum", "Flag", "Generic", "Protocol", "ABC", "namedtuple", "NamedTuple",
                 "open", "input", "law", "register", "elements", "mro", "metaclass", "Meta")
 # In a package with own __eq__ these take no generator expression.
@@ -98,6 +99,9 @@ class LanguageTest(unittest.TestCase):
         for name, tree in trees():
             found = [node for node in ast.walk(tree) if isinstance(node, ast.ImportFrom)]
             self.assertTrue(all(node in tree.body and node.level == 0 for node in found), name)
+            for node in [node for node in found if node.module in LIBRARY]:
+                self.assertTrue({alias.name for alias in node.names} <= LIBRARY[node.module], name)
+            found = [node for node in found if node.module not in LIBRARY]
             for node in found:
                 self.assertRegex(node.module, r"^nearseats\.[a-z]+$", name)
                 self.assertTrue(all(alias.asname is None and alias.name != "*" for alias in node.names), name)
@@ -180,7 +184,8 @@ class LanguageTest(unittest.TestCase):
                 if isinstance(node, ast.Attribute):
                     self.assertNotIn(node.attr, BARRED_WORDS, name)
             for word in BARRED_WORDS:
-                self.assertIsNone(re.search(rf"(?<![\w\"'-]){word}(?![\w\"'-])", strip_strings(code)), f"{name}: {word}")
+                found = re.search(rf"(?<![\w\"'-]){word}(?![\w\"'-])", strip_strings(code))
+                self.assertIsNone(found, f"{name}: {word}")
 
 
 def strip_strings(code):
