@@ -1,7 +1,7 @@
 """The lines of a book, taken one by one."""
 
 from nearseats.checks import family_why, order_why
-from nearseats.lines import family_line, order_line, room_line
+from nearseats.lines import family_line, order_line, seats_line
 
 
 class BookReader:
@@ -64,7 +64,7 @@ class BookReader:
         return None
 
     def _take_room(self, line):
-        room = room_line(line)
+        room = seats_line(line, "room")
         if room is None or not self.wants_rooms():
             return "form"
         if room[0] in self.known_rooms:

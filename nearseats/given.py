@@ -1,7 +1,7 @@
-"""Seats and deals that are given for a book, and whether they can be such."""
+"""Values that are given for a book or its table, and whether they can be such."""
 
 from nearseats.checks import is_listing
-from nearseats.errors import InvalidSeats
+from nearseats.errors import InvalidSeats, UnknownDeal
 from nearseats.names import is_number
 
 
@@ -40,3 +40,29 @@ def meant_seats(book, seats):
     if at is not None:
         raise InvalidSeats(at)
     return list(seats)
+
+
+def limits_by_room(book, seats):
+    """A dict from the names of the rooms to the seats that are meant."""
+    return {room: many for room, many in zip(book.room_names(), meant_seats(book, seats))}
+
+
+def check_open(book, number):
+    """Refuses any value that is no number of an open deal."""
+    if not is_number(number, 0, book.many_open - 1):
+        raise UnknownDeal(number)
+
+
+def columns_fault(table, columns):
+    """The index of the first wrong item of any value as one column for each row; None for such columns.
+
+    An item is wrong if it is no column of the table or has stood before. It is -1 for the whole.
+    """
+    if not is_listing(columns) or len(columns) != table.many_rows:
+        return -1
+    seen = {}
+    for at, item in enumerate(columns):
+        if not is_number(item, 0, table.many_columns - 1) or item in seen:
+            return at
+        seen[item] = True
+    return None

@@ -27,10 +27,10 @@ def text_fault(text, title, reader):
     return None if reader.closed else (last, "missing")
 
 
-def room_line(line):
-    """The pair that a line with `room` tells; None for any other form."""
+def seats_line(line, kind):
+    """The name and the number that a line of this kind tells of a room; None for any other form."""
     words = line.split(" ")
-    if len(words) != 3 or words[0] != "room" or not is_name(words[1]):
+    if len(words) != 3 or words[0] != kind or not is_name(words[1]):
         return None
     seats = written_number(words[2])
     return None if seats is None else (words[1], seats)

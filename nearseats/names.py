@@ -13,10 +13,15 @@ def is_name(value):
     return value[0] in LETTERS and all([sign in LETTERS or sign in DIGITS for sign in value])
 
 
+def is_any_number(value):
+    """Whether any value is a number, of any size and sign."""
+    # True and False are integers for Python, but no numbers here.
+    return isinstance(value, int) and not isinstance(value, bool)
+
+
 def is_number(value, least, most):
     """Whether any value is a number from least to most; most may be None, for no bound."""
-    # True and False are integers for Python, but no numbers here.
-    if not isinstance(value, int) or isinstance(value, bool):
+    if not is_any_number(value):
         return False
     return value >= least and (most is None or value <= most)
 
