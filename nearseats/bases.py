@@ -120,7 +120,7 @@ def solved(table, columns):
     """The number below and the values of these columns, as a dict; None if they are dependent."""
     below = 1
     solution = {row: table.bound(row) for row in range(table.many_rows)}
-    for column in sorted(columns):
+    for column in columns:
         if column not in solution:
             weights = weights_in(solution, table.parts(column))
             free = [other for other in solution if weights[other] != 0 and other not in columns]
@@ -172,7 +172,7 @@ def is_less(value, weight, other, other_weight):
 
 def _eliminated(rows):
     """The number of independent rows, and the last pivot, with the sign that the exchanges of rows give it."""
-    left = [list(row) for row in rows]
+    left = list(rows)
     done = 0
     pivot = 1
     sign = 1

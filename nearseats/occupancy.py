@@ -8,13 +8,13 @@ class Occupancy:
 
     def __init__(self, assignment, seats):
         self.book = assignment.book
-        self._given = assignment.deals()
+        self._deals = assignment.deals()
         self._limits = limits_by_room(self.book, seats)
         self._residents = {room: assignment.residents(room) for room in self._limits}
 
     def given_to(self, number):
         """The number of the deal that the family of an open deal has, or None."""
-        return self._given[self.book.family_of(number)]
+        return self._deals[self.book.family_of(number)]
 
     def rooms_of(self, number):
         """The rooms to which an open deal sends members, in the order of the book."""

@@ -118,7 +118,7 @@ class Walk:
         """Does the next step, and returns its triple."""
         if self.ended:
             raise Finished()
-        kind, column = self._coming()
+        kind, column = self._due_step()
         triple = self._put(column) if kind == PUT else self._take(column)
         self._log.append(triple)
         return triple
@@ -156,7 +156,7 @@ class Walk:
     def __repr__(self):
         return f"Walk({len(self._log)} steps)"
 
-    def _coming(self):
+    def _due_step(self):
         """The kind of the next step, and the column that it puts or takes away."""
         if self._log:
             kind, came, left = self._log[-1]

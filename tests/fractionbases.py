@@ -24,7 +24,7 @@ def leibniz(rows):
 def solved(columns, sides):
     """A row of fractions for each column, so that the columns multiplied by them give the sides; None if dependent."""
     many = len(columns)
-    rows = [[Fraction(column[row]) for column in columns] + [Fraction(item) for item in sides[row]] for row in range(many)]
+    rows = [[Fraction(item) for item in [*[column[row] for column in columns], *sides[row]]] for row in range(many)]
     for at in range(many):
         found = [row for row in range(at, many) if rows[row][at] != 0]
         if not found:

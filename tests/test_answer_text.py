@@ -16,7 +16,8 @@ BOOK = ("book\nroom Oak 1\nroom Elm 2\n"
         "order Oak : d.1 c.1\norder Elm : d.1 c.2 c.1\nend\n")
 # The open deals: c 0, 1 and 2, d 3 and 4; the last deal of c falls away.
 TEXT = ("answer\nseats Oak 0\nseats Elm 12\ngive c : - Elm\nout d\nout Oak\n"
-        "reason c room Oak : Oak Elm\nreason c family : Elm Elm\nreason d room Oak : Oak\nreason d room Elm : Elm\nend\n")
+        "reason c room Oak : Oak Elm\nreason c family : Elm Elm\n"
+        "reason d room Oak : Oak\nreason d room Elm : Elm\nend\n")
 LINES = TEXT.split("\n")[:-1]
 
 
@@ -48,12 +49,21 @@ class WrittenTest(Texts):
         read = Answer.read(self.book, TEXT)
         self.assertTrue(read == self.answer)
         self.assertEqual((read.seats(), read.deals()), ([0, 12], [1, None, None]))
-        self.assertEqual(list(read.reasons().items()), [(0, "room Oak"), (2, "family"), (3, "room Oak"), (4, "room Elm")])
+        self.assertEqual(list(read.reasons().items()),
+                         [(0, "room Oak"), (2, "family"), (3, "room Oak"), (4, "room Elm")])
         self.assertTrue(Answer.read(text=TEXT, book=self.book) == self.answer)
 
     def test_the_empty_book(self):
         self.assertEqual(Answer([], [], {}).text(Book.empty()), "answer\nend\n")
         self.assertTrue(Answer.read(Book.empty(), "answer\nend\n") == Answer([], [], {}))
+
+    def test_a_book_without_families(self):
+        book = Book.read("book\nroom Oak 1\norder Oak :\nend\n")
+        self.assertTrue(Answer.read(book, "answer\nseats Oak 3\nend\n") == Answer([3], [], {}))
+        for text in ("answer\nend\n", "answer\nreason c family : Oak\n"):
+            with self.assertRaises(BadPaper) as caught:
+                Answer.read(book, text)
+            self.assertEqual((caught.exception.line, caught.exception.why), (1, "form"))
 
     def test_reasons_in_any_order(self):
         text = "".join(f"{line}\n" for line in [*LINES[:6], LINES[9], LINES[7], LINES[6], LINES[8], LINES[10]])
@@ -78,8 +88,8 @@ class WrittenTest(Texts):
                    "2": "family", (3,): "room Oak", None: "family", 10 ** 30: "room Oak"}
         plain = Answer([0, 12], [1, None, None], {}).text(self.book)
         self.assertEqual(Answer([0, 12], [1, None, None], reasons).text(self.book), plain)
-        for value in ("room Oak ", " family", "family ", "room  Oak", "Oak", "room oak", "room c", "room ", "", "room Oak\n",
-                      0, True, ("family",), {"room Oak": 1}, self.book):
+        for value in ("room Oak ", " family", "family ", "room  Oak", "Oak", "room oak", "room c", "room ", "",
+                      "room Oak\n", "Room Oak", "room:Oak", 0, True, ("family",), {"room Oak": 1}, self.book):
             self.assertEqual(Answer([0, 12], [1, None, None], {0: value, 4: value}).text(self.book), plain)
         for value in (None, True, 4, "family", ["family"], ("family",), self.book):
             self.assertEqual(Answer([0, 12], [1, None, None], value).text(self.book), plain)
@@ -145,23 +155,27 @@ class FormTest(Texts):
         self.check(0, "form", "\n" + TEXT)
 
     def test_seats(self):
-        self.check_line(1, "form", "", "seats", "seats Oak", "seats Oak 01", "seats Oak -1", "seats Oak +1", "seats Oak x",
-                        "seats Oak 1 ", "seats Oak  1", " seats Oak 1", "seats Oak 1 2", "seats Oak : 1", "seat Oak 1",
-                        "seats 1 1", "seats Oak.1 1", "seats - 1", "seats Oak 1234567890", "seats Oak1234567890 1",
+        self.check_line(1, "form", "", "seats", "seats Oak", "seats Oak 01", "seats Oak -1", "seats Oak +1",
+                        "seats Oak x", "seats Oak 1 ", "seats Oak  1", " seats Oak 1", "seats Oak 1 2", "seats Oak : 1",
+                        "seat Oak 1", "seats 1 1", "seats Oak.1 1", "seats - 1", "seats Oak 1234567890",
+                        "seats Oak1234567890 1",
                         "room Oak 1", "seats Oak 1\t")
 
     def test_give_and_out(self):
         for at in (3, 4):
             name = "c" if at == 3 else "d"
-            self.check_line(at, "form", "", "give", f"give {name}", f"give {name} :", f"give {name} : ", f"give {name} Oak",
-                            f"give {name} : Oak  Elm", f"give {name} : Oak ", f"give {name}  : Oak", f"give {name} : Oak.1",
+            self.check_line(at, "form", "", "give", f"give {name}", f"give {name} :", f"give {name} : ",
+                            f"give {name} Oak", f"give {name} : Oak  Elm", f"give {name} : Oak ",
+                            f"give {name}  : Oak", f"give {name} : Oak.1",
                             f"give {name} : 1", f"give {name} : Oak | Elm", f"give {name} : --", f"give {name}.1 : Oak",
-                            f"gives {name} : Oak", f"out {name} ", f"out  {name}", "out", f"out {name} :", f"out {name}.1",
-                            f"out : {name}", "out -", f"outs {name}", f"give {name} : Oak :", f" out {name}")
+                            f"gives {name} : Oak", f"out {name} ", f"out  {name}", "out", f"out {name} :",
+                            f"out {name}.1", f"out : {name}", "out -", f"outs {name}", f"give {name} : Oak :",
+                            f" out {name}")
 
     def test_reason(self):
-        self.check_line(6, "form", "", "reason", "reason c", "reason c family", "reason c family :", "reason c family : ",
-                        "reason c room : Oak Elm", "reason c room Oak", "reason c room Oak :", "reason c room - : Oak Elm",
+        self.check_line(6, "form", "", "reason", "reason c", "reason c family", "reason c family :",
+                        "reason c family : ", "reason c room : Oak Elm", "reason c room Oak", "reason c room Oak :",
+                        "reason c room - : Oak Elm",
                         "reason c room Oak Elm : Oak Elm", "reason c family Oak : Oak Elm", "reason c : Oak Elm",
                         "reason c none : Oak Elm", "reason  c family : Oak Elm", "reason c family : Oak  Elm",
                         "reason c family : Oak Elm ", "reason c.1 family : Oak Elm", "reason c family : Oak Elm : Oak",
@@ -204,8 +218,8 @@ class WordsTest(Texts):
                         "reason c room c : - Elm", "reason x room Oak : - Elm")
 
     def test_deal(self):
-        self.check_line(3, "deal", "give c : Elm Oak", "give c : Oak", "give c : - - Elm", "give c : - -", "give c : Oak Oak",
-                        "give c : Pine Elm", "give c : -")
+        self.check_line(3, "deal", "give c : Elm Oak", "give c : Oak", "give c : - - Elm", "give c : - -",
+                        "give c : Oak Oak", "give c : Pine Elm", "give c : -")
         self.check_line(4, "deal", "give d : -", "give d : Pine", "give d : Oak Elm")
         self.check_line(5, "deal", "give Oak : Oak", "give Oak : -")
         self.check_line(6, "deal", "reason c family : Elm Oak", "reason c family : Oak", "reason c room Oak : Oak Oak",
@@ -213,7 +227,8 @@ class WordsTest(Texts):
                         "reason c room Elm : - - Elm")
 
     def test_double(self):
-        self.check_line(7, "double", "reason c room Oak : Oak Elm", "reason c family : Oak Elm", "reason c room Elm : Oak Elm")
+        self.check_line(7, "double", "reason c room Oak : Oak Elm", "reason c family : Oak Elm",
+                        "reason c room Elm : Oak Elm")
         self.check_line(9, "double", "reason d family : Oak", "reason c family : Elm Elm")
 
     def test_missing(self):

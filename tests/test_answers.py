@@ -103,6 +103,8 @@ class KeptTest(unittest.TestCase):
         self.assertEqual([answer.reason(number) for number in (4, 2, 3, 5, -1, 0)],
                          ["family", None, None, ["odd"], "room Oak", None])
         self.assertIsNone(answer.reason(number=10 ** 9))
+        # True is no number, though it is equal to 1 for Python.
+        self.assertIsNone(Answer([], [], {1: "family"}).reason(True))
 
     def test_reasons_that_are_no_dict(self):
         for value in (None, True, 3, "family", [], ["family"], (), ("family",), pair_book()):

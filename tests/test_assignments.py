@@ -77,8 +77,8 @@ class MadeTest(Assignments):
         made.over(seats=seats)
         self.assertEqual((made.deals(), seats), ([0, 2, None, 5], [0, 0, 0]))
         for told in (made.deals, lambda: made.residents("Oak"), made.counts, made.over):
-            before = told()
-            self.assertIsInstance(before, list)
+            before = list(told())
+            self.assertIsInstance(told(), list)
             told().append("more")
             told().clear()
             self.assertEqual(told(), before)

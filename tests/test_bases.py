@@ -50,8 +50,9 @@ class DeterminantTest(unittest.TestCase):
             self.assertEqual(rows, kept)
 
     def test_independent_rows(self):
-        for rows, many in (([], 0), ([[]], 0), ([[], []], 0), ((), 0), ([[0, 0]], 0), ([[0], [3]], 1), ([[1, 2], [2, 4]], 1),
-                           ([[1, 2], [2, 5]], 2), ([[1, 0], [0, 1], [1, 1]], 2), ([[0, 0, 1], [0, 0, 2], [0, 3, 0]], 2),
+        for rows, many in (([], 0), ([[]], 0), ([[], []], 0), ((), 0), ([[0, 0]], 0), ([[0], [3]], 1),
+                           ([[1, 2], [2, 4]], 1), ([[1, 2], [2, 5]], 2), ([[1, 0], [0, 1], [1, 1]], 2),
+                           ([[0, 0, 1], [0, 0, 2], [0, 3, 0]], 2),
                            ([[1, 2, 3], [4, 5, 6], [7, 8, 9]], 2), ([[0, 1, 2, 3]], 1), (((5,), (-5,), (0,)), 1),
                            ([[10 ** 900, 1], [10 ** 900 + 1, 1]], 2), ([[3 * 10 ** 900, 3], [10 ** 900, 1]], 1)):
             self.assertEqual(independent_rows(rows), many, rows)
@@ -122,7 +123,8 @@ class MadeTest(Bases):
     def test_without_rows(self):
         table = Table(Book.empty())
         basis = Basis(table, [])
-        self.assertEqual((basis.columns(), basis.below, len(basis), bool(basis), repr(basis)), ([], 1, 0, True, "Basis()"))
+        self.assertEqual((basis.columns(), basis.below, len(basis), repr(basis)), ([], 1, 0, "Basis()"))
+        self.assertIs(bool(basis), True)
         self.assertIs(basis.is_feasible, True)
         self.assertTrue(basis.shares() == Shares([]))
         self.assertTrue(basis == Basis.idle(table) == Basis(table, ()))
@@ -153,7 +155,8 @@ class SolutionTest(Bases):
 
     def test_weights(self):
         self.assertEqual([self.half.weights(column) for column in range(7)],
-                         [[2, 0, 0, 0], [1, -1, 1, 1], [-1, 1, 1, -1], [-1, 1, -1, 1], [0, 2, 0, 0], [0, 0, 2, 0], [0, 0, 0, 2]])
+                         [[2, 0, 0, 0], [1, -1, 1, 1], [-1, 1, 1, -1], [-1, 1, -1, 1],
+                          [0, 2, 0, 0], [0, 0, 2, 0], [0, 0, 0, 2]])
         self.assertEqual(self.half.weights(column=1), [1, -1, 1, 1])
         self.half.weights(1).clear()
         self.assertEqual(self.half.weights(1), [1, -1, 1, 1])

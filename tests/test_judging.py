@@ -45,7 +45,8 @@ class TakenTest(Judging):
         self.check(-1, "deals", [], [None], {}, Book.empty())
 
     def test_other_reasons_count_for_nothing(self):
-        reasons = {1: "family", 2: "family", 3: "room Elm", 0: "wrong", 4: [], -1: 5, 99: None, "1": "x", (2,): 0, None: 1}
+        reasons = {1: "family", 2: "family", 3: "room Elm", 0: "wrong", 4: [], -1: 5, 99: None, "1": "x", (2,): 0,
+                   None: 1}
         self.assertIsNone(judge(self.book, Answer([3, 1, 0], [0, 4, 5, None], reasons)))
 
     def test_either_reason_of_two_right_ones(self):
@@ -149,12 +150,14 @@ class ReasonTest(Judging):
             self.check(1, "missing", [3, 1, 0], [0, 4, 5, None], value)
 
     def test_strings_that_are_no_reasons(self):
-        for value in ("", "Family", " family", "family ", "room", "room ", "room Elm ", "room  Elm", "Elm", "room elm", "room c",
-                      "room Pine", "room Oak Elm", "room Ash", "room Oak", "room -", "family\n", "rooms Elm"):
+        for value in ("", "Family", " family", "family ", "room", "room ", "room Elm ", "room  Elm", "Elm", "room elm",
+                      "room c", "room Pine", "room Oak Elm", "room Ash", "room Oak", "room -", "family\n", "rooms Elm",
+                      "Room Elm", "room:Elm", "     Elm", " room Elm"):
             self.check(3, "reason", [3, 1, 0], [0, 4, 5, None], {1: "family", 2: "family", 3: value})
 
     def test_values_that_are_no_strings(self):
-        for value in (True, False, 0, 3, (), ("family",), [], ["family"], {}, {"family": 1}, {0: "room Elm"}, self.book):
+        for value in (True, False, 0, 3, (), ("family",), [], ["family"], {}, {"family": 1}, {0: "room Elm"},
+                      self.book):
             self.check(1, "reason", [3, 1, 0], [0, 4, 5, None], {1: value, 2: "family", 3: "room Elm"})
 
     def test_family(self):
@@ -162,13 +165,15 @@ class ReasonTest(Judging):
         self.check(0, "family", [2, 1, 0], [None, 3, 5, None], {0: "family"})
         self.check(0, "family", [3, 1, 0], [2, 4, 5, None], {0: "family"})
         # A better deal of another family is none.
-        self.check(5, "family", [2, 1, 0], [0, 4, None, None], {1: "family", 2: "family", 3: "room Elm", 5: "family"})
+        reasons = {1: "family", 2: "family", 3: "room Elm", 5: "family"}
+        self.check(5, "family", [2, 1, 0], [0, 4, None, None], reasons)
 
     def test_full(self):
         self.check(0, "full", [2, 1, 0], [None, 4, 5, None], {0: "room Elm"})
         self.check(0, "full", [3, 0, 0], [None, 4, 5, None], {0: "room Oak"})
         self.check(0, "full", [2, 2, 0], [2, None, None, None], {0: "room Oak"})
-        self.check(5, "full", [3, 1, 0], [0, 4, None, None], {1: "family", 2: "family", 3: "room Elm", 5: "room Oak"})
+        reasons = {1: "family", 2: "family", 3: "room Elm", 5: "room Oak"}
+        self.check(5, "full", [3, 1, 0], [0, 4, None, None], reasons)
 
     def test_better(self):
         # In Oak e.1 stands between c.1 and c.2, who is the last one of the deal 1.

@@ -159,6 +159,18 @@ class LanguageTest(unittest.TestCase):
                       if isinstance(part, ast.Attribute) and isinstance(part.ctx, ast.Store)}
             self.assertEqual(stored & set(methods), set(), place)
 
+    def test_no_name_is_a_method_and_an_attribute(self):
+        classes = [part for _, node in nodes(ast.ClassDef) for part in node.body]
+        methods = {part.name for part in classes if isinstance(part, ast.FunctionDef)}
+        stored = {node.attr for _, node in nodes(ast.Attribute) if isinstance(node.ctx, ast.Store)}
+        self.assertEqual(methods & stored, set())
+        names = [part.name for part in classes if isinstance(part, ast.FunctionDef) and part.decorator_list]
+        others = [part.name for part in classes if isinstance(part, ast.FunctionDef) and not part.decorator_list]
+        self.assertEqual(set(names) & set(others), set())
+        for word in methods | stored:
+            kinds = (str, int, list, dict, set, bytes, tuple)
+            self.assertFalse(not word.startswith("__") and any(hasattr(kind, word) for kind in kinds), word)
+
     def test_generator_expressions_and_sets(self):
         for place, node in nodes(ast.Call):
             if isinstance(node.func, ast.Name) and node.func.id in WANT_LISTS:
@@ -167,6 +179,27 @@ class LanguageTest(unittest.TestCase):
         for place, node in nodes((ast.For, ast.comprehension)):
             called = node.iter.func if isinstance(node.iter, ast.Call) else None
             self.assertFalse(isinstance(called, ast.Name) and called.id == "set", place)
+
+    def test_generators(self):
+        whole = [node for _, tree in trees() for node in ast.walk(tree)]
+        functions = [node for node in whole if isinstance(node, ast.FunctionDef)]
+        names = [node.name for node in functions]
+        found = [node.name for node in functions if any(isinstance(part, ast.Yield) for part in ast.walk(node))]
+        self.assertIn("complete_sets", found)
+        self.assertEqual([name for name in found if names.count(name) > 1], [])
+        iterated = [node.iter for node in whole if isinstance(node, (ast.For, ast.comprehension))]
+        calls = [node for node in whole if isinstance(node, ast.Call) and getattr(node.func, "id", "") in found]
+        self.assertEqual([ast.unparse(node) for node in calls if node not in iterated], [])
+        used = [node for node in whole if isinstance(node, ast.Name) and node.id in found]
+        self.assertEqual([node.id for node in used if node not in [call.func for call in calls]], [])
+
+    def test_properties_and_shown_values_change_nothing(self):
+        for place, node in nodes(ast.FunctionDef):
+            shown = node.name.startswith("__") and node.name not in ("__init__", "__iter__")
+            if shown or any(isinstance(word, ast.Name) and word.id == "property" for word in node.decorator_list):
+                for part in ast.walk(node):
+                    self.assertFalse(isinstance(part, (ast.Attribute, ast.Subscript))
+                                     and not isinstance(part.ctx, ast.Load), place)
 
     def test_identity(self):
         for place, node in nodes(ast.Compare):

@@ -13,8 +13,9 @@ from randombooks import random_book
 from samples import ODD_VALUES, pair_book
 
 NO_ROWS = (None, True, False, -1, 4, 10 ** 30, "0", "c", (), (0,), [], [0], {}, {0: 0}, ("family", "c"), Book.empty())
-NO_SETS = (*ODD_VALUES, "0456", {0: 0, 4: 1, 5: 2, 6: 3}, [], (), [0, 4, 5], [0, 4, 5, 6, 1], [0, 4, 5, 5], [0, 4, 5, 7],
-           [-1, 4, 5, 6], [False, 4, 5, 6], [0, 4, 5, None], [0, 4, 5, "6"], (0, 4, 5, [6]), [[0, 4, 5, 6]])
+NO_SETS = (*ODD_VALUES, "0456", {0: 0, 4: 1, 5: 2, 6: 3}, [], (), [0, 4, 5], [0, 4, 5, 6, 1], [0, 4, 5, 5],
+           [0, 4, 5, 7], [-1, 4, 5, 6], [False, 4, 5, 6], [0, 4, 5, None], [0, 4, 5, "6"],
+           (0, 4, 5, [6]), [[0, 4, 5, 6]])
 
 
 class Ordinal(unittest.TestCase):

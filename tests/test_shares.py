@@ -96,7 +96,8 @@ class SharesTest(unittest.TestCase):
         shares = Shares([1, 2], below=3)
         self.assertTrue(shares == Shares((2, 4), below=6))
         self.assertFalse(shares != Shares((2, 4), below=6))
-        for other in (Shares([1, 2]), Shares([1, 2, 0], below=3), Shares([2, 1], below=3), Shares([1, 2], below=5), *ODD_VALUES):
+        others = (Shares([1, 2]), Shares([1, 2, 0], below=3), Shares([2, 1], below=3), Shares([1, 2], below=5))
+        for other in (*others, *ODD_VALUES):
             self.assertFalse(shares == other)
             self.assertTrue(shares != other)
 
@@ -104,7 +105,8 @@ class SharesTest(unittest.TestCase):
         for numbers in ([], [0], [1, 2, 3]):
             self.assertEqual(len(Shares(numbers)), len(numbers))
             self.assertIs(bool(Shares(numbers)), True)
-        self.assertEqual((repr(Shares([2, 4, 6], below=4)), repr(Shares([], below=4))), ("Shares(3 of 2)", "Shares(0 of 1)"))
+        self.assertEqual(repr(Shares([2, 4, 6], below=4)), "Shares(3 of 2)")
+        self.assertEqual(repr(Shares([], below=4)), "Shares(0 of 1)")
 
     def test_lists_that_are_changed(self):
         numbers = [1, 2]
@@ -119,8 +121,8 @@ class Rows(unittest.TestCase):
     def setUp(self):
         self.table = Table(pair_book())
         self.half = Shares([1, 1, 1], below=2)
-        self.wrong = (None, True, 1, "shares 2 : 1 1 1", [1, 1, 1], (1, 1, 1), {}, self.table, Shares([]), Shares([1, 1]),
-                      Shares([1, 1, 1, 1]))
+        self.wrong = (None, True, 1, "shares 2 : 1 1 1", [1, 1, 1], (1, 1, 1), {}, self.table, Shares([]),
+                      Shares([1, 1]), Shares([1, 1, 1, 1]))
 
     def check_kind(self, call):
         for value in self.wrong:
@@ -216,7 +218,8 @@ class CheckTest(Rows):
         self.check(NotDominating, "number", 2, Shares([2, 1, 1], below=3))
 
     def test_a_row_in_which_the_deal_takes_no_part_does_not_dominate(self):
-        book = Book.read("book\nroom A 1\nroom B 1\nfamily c 1 : A\nfamily d 1 : B\norder A : c.1\norder B : d.1\nend\n")
+        book = Book.read("book\nroom A 1\nroom B 1\nfamily c 1 : A\nfamily d 1 : B\n"
+                         "order A : c.1\norder B : d.1\nend\n")
         with self.assertRaises(NotDominating) as caught:
             check_shares(Table(book), Shares([1, 0]))
         self.assertEqual(caught.exception.number, 1)
@@ -261,7 +264,8 @@ class CheckTest(Rows):
 
 
 def naive_sum(table, shares, row):
-    return sum(table.entry(row, table.column_of(number)) * Fraction(*shares.share(number)) for number in range(len(shares)))
+    return sum(table.entry(row, table.column_of(number)) * Fraction(*shares.share(number))
+               for number in range(len(shares)))
 
 
 def naive_rows(table, shares, number):
@@ -269,8 +273,9 @@ def naive_rows(table, shares, number):
     found = []
     for row in range(table.many_rows):
         others = [other for other in range(len(shares)) if table.takes_part(row, other) and shares.numbers()[other] > 0]
+        mine = table.column_of(number)
         if table.takes_part(row, number) and naive_sum(table, shares, row) == table.bound(row)[0] and all(
-                other == number or table.is_better(row, table.column_of(other), table.column_of(number)) for other in others):
+                other == number or table.is_better(row, table.column_of(other), mine) for other in others):
             found.append(row)
     return found
 

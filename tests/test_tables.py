@@ -60,8 +60,8 @@ class RowsTest(Tables):
         self.assertEqual(self.table.row_of(name="c", kind="room"), 5)
 
     def test_row_of_other_values(self):
-        for kind, name in (("room", "Ash"), ("family", "Oak"), ("room", "d"), ("Family", "c"), ("", ""), ("room", "oak"),
-                           ("family", "c.1"), ("roomOak", ""), ("column", "c")):
+        for kind, name in (("room", "Ash"), ("family", "Oak"), ("room", "d"), ("Family", "c"), ("", ""),
+                           ("room", "oak"), ("family", "c.1"), ("roomOak", ""), ("column", "c")):
             self.assertIsNone(self.table.row_of(kind, name))
         for value in (*ODD_VALUES, self.table):
             self.assertIsNone(self.table.row_of("family", value))
