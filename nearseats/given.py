@@ -17,10 +17,17 @@ def seats_fault(book, seats):
 
 def deals_fault(book, deals):
     """The index of the first wrong item of any value as deals, -1 for the whole; None for deals."""
-    names = book.family_names()
-    if not is_listing(deals) or len(deals) != len(names):
+    if is_listing(deals) and len(deals) < len(book):
         return -1
-    for at, item in enumerate(deals):
+    return decided_fault(book, deals)
+
+
+def decided_fault(book, decided):
+    """The index of the first wrong item of any value as deals of the first families, -1 for the whole, or None."""
+    names = book.family_names()
+    if not is_listing(decided) or len(decided) > len(names):
+        return -1
+    for at, item in enumerate(decided):
         if not is_choice(book, names[at], item):
             return at
     return None
