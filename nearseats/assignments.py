@@ -28,7 +28,7 @@ class Assignment:
         """The members that the given deals send to a room, in the order of the room."""
         order = self.book.order(room)
         sent = [self.book.sent(number, room) for number in self._deals if number is not None]
-        here = [member for members in sent for member in members]
+        here = {member: True for members in sent for member in members}
         return [member for member in order if member in here]
 
     def counts(self):

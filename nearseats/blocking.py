@@ -13,14 +13,14 @@ def chosen(book, room, members, *, seats=None):
 def blocks(assignment, number, *, seats=None):
     """Whether an open deal blocks an assignment."""
     check_open(assignment.book, number)
-    return _is_blocking(Occupancy(assignment, seats), number)
+    return is_blocking(Occupancy(assignment, seats), number)
 
 
 def blocking(assignment, *, seats=None):
     """The numbers of all deals that block an assignment, ascending."""
     rooms = Occupancy(assignment, seats)
     for number in range(assignment.book.many_open):
-        if _is_blocking(rooms, number):
+        if is_blocking(rooms, number):
             yield number
 
 
@@ -33,9 +33,8 @@ def is_stable(assignment, *, seats=None):
     return True
 
 
-def _is_blocking(rooms, number):
+def is_blocking(rooms, number):
     """Whether an open deal blocks the assignment of these rooms, an Occupancy."""
-    given = rooms.given_to(number)
-    if given is not None and given <= number:
+    if not rooms.is_wanted(number):
         return False
     return all([rooms.chooses(room, rooms.book.sent(number, room)) for room in rooms.rooms_of(number)])

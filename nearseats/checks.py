@@ -45,7 +45,12 @@ def is_order(value):
 def family_why(family, rooms, sizes):
     """What is wrong with a triple of is_family, or None; rooms and sizes have the names told ahead of it."""
     name, _, deals = family
-    if name in sizes or not all([item == OUT or item in rooms for deal in deals for item in deal]):
+    return "name" if name in sizes else deals_why(deals, rooms)
+
+
+def deals_why(deals, rooms):
+    """What is wrong with a list of deals that are written rightly, or None, whatever their lengths are."""
+    if not all([item == OUT or item in rooms for deal in deals for item in deal]):
         return "name"
     if any([deal.count(OUT) == len(deal) for deal in deals]):
         return "empty"

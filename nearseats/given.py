@@ -54,6 +54,12 @@ def limits_by_room(book, seats):
     return {room: many for room, many in zip(book.room_names(), meant_seats(book, seats))}
 
 
+def over_fault(assignment, seats):
+    """The index of the first room that is over, or None."""
+    over = assignment.over(seats=seats)
+    return assignment.book.room_names().index(over[0]) if over else None
+
+
 def check_open(book, number):
     """Refuses any value that is no number of an open deal."""
     if not is_number(number, 0, book.many_open - 1):

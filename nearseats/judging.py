@@ -2,7 +2,7 @@
 
 from nearseats.assignments import Assignment
 from nearseats.errors import UnknownDeal
-from nearseats.given import deals_fault, seats_fault
+from nearseats.given import deals_fault, over_fault, seats_fault
 from nearseats.names import is_number
 from nearseats.occupancy import Occupancy
 from nearseats.reasons import why_wrong
@@ -31,9 +31,9 @@ def judge(book, answer):
     if at is not None:
         return Fault(at, "deals")
     assignment = Assignment(book, answer.deals())
-    over = assignment.over(seats=answer.seats())
-    if over:
-        return Fault(book.room_names().index(over[0]), "over")
+    at = over_fault(assignment, answer.seats())
+    if at is not None:
+        return Fault(at, "over")
     return _reason_fault(assignment, answer)
 
 

@@ -21,11 +21,27 @@ class Occupancy:
         deal = self.book.deal(number)
         return [room for room in self._limits if room in deal]
 
+    def is_wanted(self, number):
+        """Whether the family of an open deal is out or has a deal behind it."""
+        given = self.given_to(number)
+        return given is None or given > number
+
     def chooses(self, room, members):
         """Whether a room chooses all of these members from its residents together with them."""
-        pool = self._residents[room] + members
-        first = first_members(self.book.order(room), pool, self._limits[room])
+        return self.chooses_by(self.book.order(room), room, members)
+
+    def chooses_by(self, order, room, members):
+        """The same for a room that has this order in the place of its own."""
+        first = first_members(order, self._residents[room] + members, self._limits[room])
         return all([member in first for member in members])
+
+    def not_chosen(self):
+        """The residents whom their rooms do not choose from their residents."""
+        return [member for room, many in self._limits.items() for member in self._residents[room][many:]]
+
+    def spare_seats(self):
+        """The seats of each room beyond its residents."""
+        return [many - len(self._residents[room]) for room, many in self._limits.items()]
 
     def is_filled(self, room):
         """Whether a room has just as many residents as seats."""

@@ -135,8 +135,9 @@ class LanguageTest(unittest.TestCase):
                 self.assertIn(node.id, ALLOWED_BUILTINS, place)
         for name, tree in trees():
             for node in ast.walk(tree):
-                for word in bound_names(node):
-                    self.assertFalse(hasattr(builtins, word) and not word.startswith("__"), f"{name}: {word}")
+                # A doctest that ran before leaves its last value as the builtin _.
+                for word in [word for word in bound_names(node) if not word.startswith("__") and word != "_"]:
+                    self.assertFalse(hasattr(builtins, word), f"{name}: {word}")
 
     def test_methods(self):
         allowed = ALLOWED_METHODS | own_names() | {"__init__"}
