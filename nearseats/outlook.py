@@ -13,7 +13,7 @@ class Outlook:
         self._numbers = [book.numbers(family) for family in book.family_names()]
         # How many members each open deal sends to each room.
         self._counts = [[book.deal(number).count(room) for room, _ in self._rooms] for number in range(book.many_open)]
-        # What rivals_at tells of each room of those open deals that were asked for.
+        # What rivals_at tells, by the pairs of an open deal and a room that were asked for.
         self._rivals = {}
 
     def choices(self, decided):
@@ -31,12 +31,9 @@ class Outlook:
         family = self.book.family_of(number)
         if family >= len(decided) or (decided[family] is not None and decided[family] <= number):
             return False
-        if number not in self._rivals:
-            rooms = [room for room, _ in self._rooms if room in self.book.deal(number)]
-            self._rivals[number] = [rivals_at(self.book, number, room) for room in rooms]
-        given = [other for other in decided if other is not None]
-        for limit, by_deal, undecided in self._rivals[number]:
-            if sum([by_deal[other] for other in given]) + undecided[len(decided)] > limit:
+        deal = self.book.deal(number)
+        for room, _ in self._rooms:
+            if room in deal and not self._is_sure_of(decided, number, room):
                 return False
         return True
 
@@ -51,6 +48,13 @@ class Outlook:
                 return number
         return None
 
+    def _is_sure_of(self, decided, number, room):
+        """Whether a room chooses all members that an open deal sends there, whatever the undecided families get."""
+        if (number, room) not in self._rivals:
+            self._rivals[number, room] = rivals_at(self.book, number, room)
+        limit, by_deal, undecided = self._rivals[number, room]
+        return sum([by_deal[other] for other in decided if other is not None]) + undecided[len(decided)] <= limit
+
 
 def rivals_at(book, number, room):
     """The members ahead of the last one that an open deal sends to a room, and how many of them it can bear.
@@ -61,7 +65,7 @@ def rivals_at(book, number, room):
     sent = book.sent(number, room)
     order = book.order(room)
     last = max([order.index(member) for member in sent])
-    ahead = [member for member in order[:last] if member not in sent]
+    ahead = {member: True for member in order[:last] if member not in sent}
     coming = [[member for member in book.sent(other, room) if member in ahead] for other in range(book.many_open)]
     family_of = {member: book.family_of(other) for other, members in enumerate(coming) for member in members}
     undecided = [len([at for at in family_of.values() if at >= many]) for many in range(len(book) + 1)]
