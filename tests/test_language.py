@@ -2,6 +2,7 @@
 
 import ast
 import builtins
+import functools
 import os
 import re
 import unittest
@@ -33,9 +34,9 @@ def sources():
                 yield name, file.read()
 
 
+@functools.cache
 def trees():
-    for name, text in sources():
-        yield name, ast.parse(text)
+    return [(name, ast.parse(text)) for name, text in sources()]
 
 
 def nodes(kind):
@@ -55,6 +56,33 @@ def bound_names(node):
     if isinstance(node, ast.arg):
         return [node.arg]
     return [node.name] if isinstance(node, (ast.FunctionDef, ast.ClassDef)) else []
+
+
+def is_quiet(node):
+    """Whether a method is a property, or one that an operator or a builtin calls."""
+    called = node.name.startswith("__") and node.name not in ("__init__", "__iter__")
+    return called or any(isinstance(word, ast.Name) and word.id == "property" for word in node.decorator_list)
+
+
+def changed_bases(node):
+    """What is changed in a function: the objects of its assigned items and attributes, and of changing methods."""
+    found = []
+    for part in ast.walk(node):
+        if isinstance(part, (ast.Attribute, ast.Subscript)) and not isinstance(part.ctx, ast.Load):
+            found.append(part.value)
+        elif isinstance(part, ast.Call) and isinstance(part.func, ast.Attribute) and part.func.attr in (
+                "append", "pop", "extend", "insert", "remove", "clear", "update", "setdefault", "add", "discard"):
+            found.append(part.func.value)
+    return found
+
+
+def is_made_here(node, name):
+    """Whether a local variable is only ever assigned a new list, dict or set."""
+    made = [part.value for part in ast.walk(node) if isinstance(part, ast.Assign)
+            and any(isinstance(target, ast.Name) and target.id == name for target in part.targets)]
+    kinds = (ast.List, ast.Dict, ast.ListComp, ast.DictComp, ast.BinOp)
+    return bool(made) and all(isinstance(value, kinds) or getattr(getattr(value, "func", None), "id", "") in (
+        "list", "dict", "set", "sorted") for value in made)
 
 
 class LanguageTest(unittest.TestCase):
@@ -201,6 +229,21 @@ class LanguageTest(unittest.TestCase):
                 for part in ast.walk(node):
                     self.assertFalse(isinstance(part, (ast.Attribute, ast.Subscript))
                                      and not isinstance(part.ctx, ast.Load), place)
+
+    def test_what_properties_and_shown_values_reach_changes_nothing(self):
+        functions = [node for _, node in nodes(ast.FunctionDef)]
+        found, waiting = {}, [node for node in functions if is_quiet(node)]
+        while waiting:
+            node = waiting.pop()
+            if id(node) not in found:
+                found[id(node)] = node
+                called = {getattr(part.func, "attr", getattr(part.func, "id", "")) for part in ast.walk(node)
+                          if isinstance(part, ast.Call)}
+                waiting.extend(other for other in functions if other.name in called)
+        self.assertGreater(len(found), 80)
+        for node in found.values():
+            for base in changed_bases(node):
+                self.assertTrue(isinstance(base, ast.Name) and is_made_here(node, base.id), f"{node.name} line {node.lineno}")
 
     def test_identity(self):
         for place, node in nodes(ast.Compare):
